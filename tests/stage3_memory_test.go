@@ -55,20 +55,30 @@ func TestAskingLeavesTextsAlone(t *testing.T) {
 	}
 }
 
+// listWithRoom lays want over bytes that may be turned, ahead of room that is full of spare.
+func listWithRoom(want []string, spare string) ([]string, [][]byte) {
+	var under [][]byte
+	l := make([]string, 0, len(want)+5)
+	for _, s := range want {
+		b := withRoom(s)
+		under = append(under, b)
+		l = append(l, over(b))
+	}
+	for i := len(l); i < cap(l); i++ {
+		l[:cap(l)][i] = spare
+	}
+	return l, under
+}
+
+func listUntouched(l, want []string, spare string) bool {
+	return slices.Equal(l, want) && !slices.ContainsFunc(l[len(l):cap(l)], func(s string) bool { return s != spare })
+}
+
 func TestJoinLeavesItsListAlone(t *testing.T) {
 	for _, want := range [][]string{{}, {""}, {"a"}, {"a", "b"}, {"", "a", "", "b", ""}, {"a/b"}, {strings.Repeat("x", 70)}} {
-		var under [][]byte
-		l := make([]string, 0, len(want)+5)
-		for _, s := range want {
-			b := withRoom(s)
-			under = append(under, b)
-			l = append(l, over(b))
-		}
-		for i := len(l); i < cap(l); i++ {
-			l[:cap(l)][i] = "spare"
-		}
+		l, under := listWithRoom(want, "spare")
 		got := impl.Join(l)
-		if !slices.Equal(l, want) || slices.ContainsFunc(l[len(l):cap(l)], func(s string) bool { return s != "spare" }) {
+		if !listUntouched(l, want, "spare") {
 			t.Fatalf("Join(%q) writes into its list: %q", want, l[:cap(l)])
 		}
 		for i, b := range under {
