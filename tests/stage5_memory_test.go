@@ -1,7 +1,6 @@
 package tests
 
 import (
-	"reflect"
 	"slices"
 	"strings"
 	"testing"
@@ -62,16 +61,7 @@ func (l *laidPacket) untouchedAs(p impl.Packet) bool {
 			return false
 		}
 	}
-	for _, name := range partNames() {
-		a, b := reflect.ValueOf(l.p).FieldByName(name), reflect.ValueOf(p).FieldByName(name)
-		if partIsEmpty(l.p, name) && partIsEmpty(p, name) {
-			continue
-		}
-		if !reflect.DeepEqual(a.Interface(), b.Interface()) {
-			return false
-		}
-	}
-	return spareUntouched(l.p.Wants, spareWant) && spareUntouched(l.p.Names, "spare") && spareUntouched(l.p.Codes, 77)
+	return alike(l.p, p) && spareUntouched(l.p.Wants, spareWant) && spareUntouched(l.p.Names, "spare") && spareUntouched(l.p.Codes, 77)
 }
 
 // turn turns every byte that the packet's texts and lists lie over.

@@ -34,6 +34,21 @@ func partIsEmpty(p impl.Packet, name string) bool {
 	return f.IsZero()
 }
 
+// alike holds two packets against each other part by part, other than the program does.
+func alike(a, b impl.Packet) bool {
+	x, y := reflect.ValueOf(a), reflect.ValueOf(b)
+	for i := range x.NumField() {
+		f, g := x.Field(i), y.Field(i)
+		if f.Kind() == reflect.Slice && f.Len() == 0 && g.Len() == 0 {
+			continue
+		}
+		if !reflect.DeepEqual(f.Interface(), g.Interface()) {
+			return false
+		}
+	}
+	return true
+}
+
 // partValues lists what each part is turned into: what is right somewhere, at the edges, and wrong everywhere.
 var partValues = map[string][]any{
 	"Type":    {math.MinInt, -1, 0, 1, 2, 3, 4, 5, 6, 7, 8, 9, 10, 11, 12, 13, 14, 15, 16, 257, 1<<32 + 3},
